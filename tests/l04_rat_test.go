@@ -685,18 +685,24 @@ func TestRatArgumentsStayAndResultsAreNew(t *testing.T) {
 			first := impl.Rat{Num: impl.BigInt{Neg: r.Num.Neg, Mag: guards[0].list}, Den: guards[1].list}
 			second := impl.Rat{Num: impl.BigInt{Neg: s.Num.Neg, Mag: guards[2].list}, Den: guards[3].list}
 			got, want := ratParts(ratCalls(first, second)), ratParts(ratCalls(r, s))
-			checkPartsAre(t, got, want, "")
-			for name := range got {
-				fill(got[name], -5)
-				checkPartsAre(t, got, want, name)
-				for _, g := range guards {
-					if !g.unchanged() {
-						t.Fatalf("%v was changed to %v, or %s shares memory with it", g.before, g.array, name)
-					}
-				}
-				copy(got[name], want[name])
+			checkPartsAreNew(t, got, want, guards)
+		}
+	}
+}
+
+// checkPartsAreNew overwrites one slice of the results after the other: neither the other ones nor the arguments may change.
+func checkPartsAreNew(t *testing.T, got map[string][]int, want map[string][]int, guards []guarded) {
+	t.Helper()
+	checkPartsAre(t, got, want, "")
+	for name := range got {
+		fill(got[name], -5)
+		checkPartsAre(t, got, want, name)
+		for _, g := range guards {
+			if !g.unchanged() {
+				t.Fatalf("%v was changed to %v, or %s shares memory with it", g.before, g.array, name)
 			}
 		}
+		copy(got[name], want[name])
 	}
 }
 
